@@ -1,0 +1,1 @@
+"""Likemarks: few marks of a row that meet every unlike stretch."""

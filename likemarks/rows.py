@@ -1,0 +1,33 @@
+"""Rows of letters, and the words that stand in them."""
+
+from likemarks.kinds import is_letter
+
+MOST_LETTERS = 60
+
+
+def is_row(thing):
+    """Tell of anything whether it is a row: a text of 0 to 60 letters."""
+    if not isinstance(thing, str) or len(thing) > MOST_LETTERS:
+        return False
+    return all([is_letter(sign) for sign in thing])
+
+
+def words_of(row, many):
+    """List the word of so many letters at each place, like ones again and again."""
+    return [row[begin:begin + many] for begin in range(len(row) - many + 1)]
+
+
+def places(row, word):
+    """List the places at which a word stands, rising."""
+    words = words_of(row, len(word))
+    return [place for place, found in enumerate(words) if found == word]
+
+
+def unlike(row, many):
+    """List the unlike words of so many letters that stand, sorted."""
+    return sorted(set(words_of(row, many)))
+
+
+def counts(row):
+    """List how many unlike words of 1, 2, .. letters stand."""
+    return [len(unlike(row, many)) for many in range(1, len(row) + 1)]
