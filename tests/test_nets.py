@@ -95,6 +95,8 @@ class IsNet(unittest.TestCase):
                       [0, 1, []], [{}], [0, 1, {2}], [b"a"], [0, 1, int], [0, is_net]):
             self.assertIs(is_net("ab", thing), False, thing)
         self.assertIs(is_net("a", [False]), False)
+        for thing in ((0, 1), {0: 1, 1: 2}, None, "ab", 2):
+            self.assertIs(is_net("ab", thing), False, thing)
         self.assertIs(is_net("aa", [True]), False)
 
     def test_small_rows(self):
