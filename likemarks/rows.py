@@ -31,3 +31,34 @@ def unlike(row, many):
 def counts(row):
     """List how many unlike words of 1, 2, .. letters stand."""
     return [len(unlike(row, many)) for many in range(1, len(row) + 1)]
+
+
+def like_first(one, other):
+    """Tell how many first letters of two texts with as many letters are alike."""
+    for many, letter in enumerate(one):
+        if other[many] != letter:
+            return many
+    return len(one)
+
+
+def like_right(row, begins, many):
+    """Tell how far stretches of so many letters, at rising places, are led on to the right alike."""
+    first = begins[0] + many
+    more = len(row) - (begins[-1] + many)
+    for begin in begins[1:]:
+        if more == 0:
+            break
+        behind = begin + many
+        more = like_first(row[first:first + more], row[behind:behind + more])
+    return more
+
+
+def like_left(row, begins):
+    """Tell how far stretches that begin at rising places are led on to the left alike."""
+    first = begins[0]
+    more = first
+    for begin in begins[1:]:
+        if more == 0:
+            break
+        more = like_first(row[first - more:first][::-1], row[begin - more:begin][::-1])
+    return more
