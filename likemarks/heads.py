@@ -1,7 +1,7 @@
 """Heads and cores: the few words by which all words of a row are known."""
 
 from likemarks.errors import NoStand
-from likemarks.rows import places, words_of
+from likemarks.rows import like_right, places, words_of
 
 
 def often(row, word):
@@ -41,38 +41,40 @@ def cores(row):
     return sorted([word for word in table if is_core(table, word)])
 
 
-def often_where_stands(row, word):
-    """Tell by a dict how often each word stands; refuse a word that stands nowhere."""
-    table = how_often(row)
+def need_stand(row, word):
+    """Refuse with NoStand a word that stands nowhere."""
     # The word without letters has neither a head nor a core to be found.
-    if word == "" or word not in table:
+    if word == "" or word not in row:
         raise NoStand("the word stands nowhere in the row")
-    return table
 
 
 def head_of(row, word):
     """Tell the longest head with which a word begins."""
-    table = often_where_stands(row, word)
+    need_stand(row, word)
+    many = often(row, word)
     head = word
-    while not is_head(table, head):
+    # The word without letters stands more often than any other: one letter is left at least.
+    while often(row, head[:-1]) == many:
         head = head[:-1]
     return head
 
 
 def whole_of(row, word):
     """Tell the longest word that begins with a word and stands as often."""
-    table = often_where_stands(row, word)
-    return max([longer for longer in table
-                if longer.startswith(word) and table[longer] == table[word]], key=len)
+    need_stand(row, word)
+    begins = places(row, word)
+    many = len(word) + like_right(row, begins, len(word))
+    return row[begins[0]:begins[0] + many]
 
 
 def core_of(row, word):
     """Tell the core of a word, and how many first letters were left out for it."""
-    table = often_where_stands(row, word)
+    need_stand(row, word)
+    many = often(row, word)
     core = word
-    while table[core[1:]] == table[word]:
+    while often(row, core[1:]) == many:
         core = core[1:]
     ahead = len(word) - len(core)
-    while table[core[:-1]] == table[word]:
+    while often(row, core[:-1]) == many:
         core = core[:-1]
     return (core, ahead)

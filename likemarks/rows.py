@@ -19,8 +19,12 @@ def words_of(row, many):
 
 def places(row, word):
     """List the places at which a word stands, rising."""
-    words = words_of(row, len(word))
-    return [place for place, found in enumerate(words) if found == word]
+    found = []
+    place = row.find(word)
+    while place >= 0:
+        found.append(place)
+        place = row.find(word, place + 1)
+    return found
 
 
 def unlike(row, many):

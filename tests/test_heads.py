@@ -1,10 +1,12 @@
 import unittest
+from collections import Counter
 
 import by_hand
 from likemarks.errors import NoStand
 from likemarks.heads import core_of, cores, head_of, heads, often, whole_of
 
 SMALL = by_hand.rows_to("ab", 7) + by_hand.rows_to("abc", 5)
+GIVEN = "bbabbbabbaabbabaabbbbababababaabbabbbabaababbaabbaabbbababba"
 
 
 def often_by_hand(row, word):
@@ -155,6 +157,43 @@ class CoreOf(unittest.TestCase):
                 self.assertEqual(ahead, max(rests))
                 self.assertTrue(word[ahead:].startswith(core))
                 self.assertIs(type(core_of(row, word)), tuple)
+
+
+class ByAllWords(unittest.TestCase):
+    """[3.2], [3.3]: of rows of sixteen and of sixty letters"""
+
+    def test_rows_of_sixteen_letters(self):
+        for row in ("bbabbbabbaabbaba", "a" * 16, "ab" * 8, "abcdefghijklmnop", "aab" * 5 + "a", "abaababaabaababa",
+                    "a" * 15 + "b", "b" + "a" * 15, "aabbaabbaabbabba"):
+            self.check(row)
+
+    def test_rows_of_sixty_letters(self):
+        for row in (GIVEN, GIVEN[::-1]) + by_hand.LONG_ROWS:
+            self.check(row)
+
+    def check(self, row):
+        many = Counter(row[i:j] for i in range(len(row)) for j in range(i + 1, len(row) + 1))
+        many[""] = len(row) + 1
+        for word in many:
+            if word:
+                self.assertEqual(often(row, word), many[word])
+                self.assertEqual(head_of(row, word), self.head(many, word), (row, word))
+                self.assertEqual(whole_of(row, word), self.whole(row, many, word), (row, word))
+                self.assertEqual(core_of(row, word), self.core(many, word), (row, word))
+
+    def head(self, many, word):
+        begun = [word[:k] for k in range(1, len(word) + 1) if many[word[:k]] < many[word[:k - 1]]]
+        return begun[-1]
+
+    def whole(self, row, many, word):
+        begin = row.index(word)
+        longer = [row[begin:behind] for behind in range(begin + len(word), len(row) + 1)]
+        return [other for other in longer if many[other] == many[word]][-1]
+
+    def core(self, many, word):
+        ahead = max(k for k in range(len(word)) if many[word[k:]] == many[word])
+        rest = word[ahead:]
+        return (rest[:min(k for k in range(1, len(rest) + 1) if many[rest[:k]] == many[word])], ahead)
 
 
 class NowhereStanding(unittest.TestCase):
