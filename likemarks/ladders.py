@@ -1,7 +1,7 @@
 """Ladders: tables around the marks of a net, by which each letter is told in a few hops."""
 
 from likemarks.errors import NoLetter, NoPlace
-from likemarks.nets import need_net, next_marks, over_places
+from likemarks.nets import least_over, need_net, next_marks, over_places
 
 
 def spans(many):
@@ -28,9 +28,7 @@ def within(row, begin, many):
 
 def least_held(row, nearest, word):
     """Tell the least place of a word over a mark of a net, and the least mark that it holds there."""
-    place = row.find(word)
-    while nearest[place] >= place + len(word):
-        place = row.find(word, place + 1)
+    place = least_over(row, nearest, word)
     return (place, nearest[place])
 
 
@@ -60,7 +58,7 @@ def ladder_of(row, marks):
     if row == "":
         raise NoLetter("the row has no letters to be told")
     need_net(row, marks)
-    nearest = next_marks(row, marks)
+    nearest = next_marks(len(row), marks)
     letters = "".join([row[mark] for mark in marks])
     levels = [level_of(row, marks, nearest, span) for span in spans(len(row))]
     return (len(row), list(marks), letters, levels)
@@ -117,7 +115,7 @@ def met_places(ladder, word):
 def met_words(ladder, many):
     """List the unlike words of so many letters, sorted, from the ladder alone."""
     row = row_of(ladder)
-    nearest = next_marks(row, ladder[1])
+    nearest = next_marks(len(row), ladder[1])
     # Each word that stands does so over a mark: no others are looked at.
     return sorted(set([row[begin:begin + many] for begin in range(len(row) - many + 1)
                        if nearest[begin] < begin + many]))

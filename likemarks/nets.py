@@ -2,48 +2,61 @@
 
 from likemarks.errors import NoNet
 from likemarks.kinds import is_number
-from likemarks.rows import places, unlike, words_of
+from likemarks.rows import places, words_of
 
 
-def next_marks(row, marks):
-    """List for each place the least mark from there on.
+def next_marks(many, marks):
+    """List for each of so many places the least mark from there on.
 
     A stretch holds a mark just where the one at its begin is less than its
-    behind. Where no mark comes any more, the length of the row stands, as no
+    behind. Where no mark comes any more, the number of places stands, as no
     behind is beyond it.
     """
-    return [min([mark for mark in marks if mark >= place], default=len(row))
-            for place in range(len(row))]
+    found = []
+    begin = 0
+    for mark in marks:
+        found.extend([mark] * (mark + 1 - begin))
+        begin = mark + 1
+    found.extend([many] * (many - begin))
+    return found
 
 
 def over_places(row, marks, word):
     """List the places at which a word stands over one of the marks, rising."""
-    nearest = next_marks(row, marks)
+    nearest = next_marks(len(row), marks)
     return [place for place in places(row, word) if nearest[place] < place + len(word)]
+
+
+def least_over(row, nearest, word):
+    """Tell the least place at which a word stands over a mark, by the next marks, or None."""
+    place = row.find(word)
+    while place >= 0 and nearest[place] >= place + len(word):
+        place = row.find(word, place + 1)
+    return place if place >= 0 else None
 
 
 def over(row, marks, word):
     """Tell the least place at which a word stands over one of the marks, or None."""
-    return min(over_places(row, marks, word), default=None)
+    return least_over(row, next_marks(len(row), marks), word)
 
 
-def lacking_of(row, nearest, many):
-    """Tell the least word of so many letters that stands over no mark, or None."""
-    met = {}
-    for place, word in enumerate(words_of(row, many)):
-        if nearest[place] < place + many:
-            met[word] = True
-    for word in unlike(row, many):
-        if word not in met:
-            return word
-    return None
+def gaps_from(many, marks):
+    """List for each of so many places how many letters from there on hold no mark."""
+    return [mark - place for place, mark in enumerate(next_marks(many, marks))]
+
+
+def lacking_among(words, gaps, many):
+    """Tell the least of these words of so many letters, at 0, 1, .., that stands over no mark, or None."""
+    met = {word: True for word, gap in zip(words, gaps) if gap < many}
+    return min([word for word in words if word not in met], default=None)
 
 
 def lacking(row, marks):
     """Tell the first word, in the order of words, that stands over no mark, or None."""
-    nearest = next_marks(row, marks)
-    for many in range(1, len(row) + 1):
-        word = lacking_of(row, nearest, many)
+    gaps = gaps_from(len(row), marks)
+    # A longer word than the widest gap stands over a mark wherever it stands.
+    for many in range(1, max(gaps, default=0) + 1):
+        word = lacking_among(words_of(row, many), gaps, many)
         if word is not None:
             return word
     return None

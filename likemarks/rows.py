@@ -32,9 +32,14 @@ def unlike(row, many):
     return sorted(set(words_of(row, many)))
 
 
+def how_many_unlike(row, many):
+    """Tell how many unlike words of so many letters stand."""
+    return len(set(words_of(row, many)))
+
+
 def counts(row):
     """List how many unlike words of 1, 2, .. letters stand."""
-    return [len(unlike(row, many)) for many in range(1, len(row) + 1)]
+    return [how_many_unlike(row, many) for many in range(1, len(row) + 1)]
 
 
 def like_first(one, other):

@@ -42,15 +42,6 @@ def spread(telling):
     return steps
 
 
-def way_from(steps, place):
-    """List the way of a place, on to that of an own piece where it comes to one."""
-    way = [place]
-    # No place comes twice, but where the way is led round: so it may end here.
-    while is_number(steps[way[-1]]) and len(way) < len(steps):
-        way.append(steps[way[-1]])
-    return way
-
-
 def need_form(telling):
     """Refuse with NoTelling what is no list of pieces, all led to places of its row."""
     if not isinstance(telling, list) or not all([is_piece(piece) for piece in telling]):
@@ -64,17 +55,27 @@ def need_form(telling):
             raise NoTelling("a piece is led to places beyond the row")
 
 
+def row_along(steps):
+    """Tell the row of which each place is own or led on; refuse with NoTelling one led round."""
+    letters = [None if is_number(step) else step for step in steps]
+    for place in range(len(steps)):
+        goal = place
+        way = []
+        while letters[goal] is None:
+            if len(way) == len(steps):
+                raise NoTelling("a place is led round")
+            way.append(goal)
+            goal = steps[goal]
+        # Told at once of all places passed: no way is gone along twice.
+        for passed in way:
+            letters[passed] = letters[goal]
+    return "".join(letters)
+
+
 def told_row(telling):
     """Tell the row that a telling tells; refuse with NoTelling what tells none."""
     need_form(telling)
-    steps = spread(telling)
-    letters = []
-    for place in range(len(steps)):
-        letter = steps[way_from(steps, place)[-1]]
-        if is_number(letter):
-            raise NoTelling("a place is led round")
-        letters.append(letter)
-    return "".join(letters)
+    return row_along(spread(telling))
 
 
 def led(telling, place):
@@ -82,4 +83,8 @@ def led(telling, place):
     steps = spread(telling)
     if not 0 <= place < len(steps):
         raise NoPlace("the told row has no such place")
-    return way_from(steps, place)
+    way = [place]
+    # No place comes twice, but where the way is led round: so it may end here.
+    while is_number(steps[way[-1]]) and len(way) < len(steps):
+        way.append(steps[way[-1]])
+    return way

@@ -65,6 +65,68 @@ def nets_of(row):
     return [marks for marks in all_marks(row) if net(row, marks)]
 
 
+def goals_of(pieces):
+    """Where each place of well-formed pieces is led: to a place, or at an own one to a letter."""
+    goals = []
+    for piece in pieces:
+        if piece[0] == "own":
+            goals.append(piece[1])
+        else:
+            goals += [piece[1] + k for k in range(piece[2])]
+    return goals
+
+
+def row_told(pieces):
+    """The row of well-formed pieces, or None: letters come by and by, or never."""
+    goals = goals_of(pieces)
+    known = {place: goal for place, goal in enumerate(goals) if isinstance(goal, str)}
+    if any(not isinstance(goal, str) and not 0 <= goal < len(goals) for goal in goals):
+        return None
+    for _ in goals:
+        for place, goal in enumerate(goals):
+            if goal in known and not isinstance(goal, str):
+                known[place] = known[goal]
+    if len(known) < len(goals):
+        return None
+    return "".join(known[place] for place in range(len(goals)))
+
+
+def pieces_to(many, left):
+    """All lists of pieces of letters a and b with just so many letters left, for a row of so many."""
+    if left == 0:
+        return [[]]
+    found = [[("own", letter)] + more for letter in "ab" for more in pieces_to(many, left - 1)]
+    for size in range(1, left + 1):
+        for place in range(many - size + 1):
+            found += [[("like", place, size)] + more for more in pieces_to(many, left - size)]
+    return found
+
+
+def tellings_to(most):
+    """All tellings of letters a and b of 0 to so many letters."""
+    return [pieces for many in range(most + 1) for pieces in pieces_to(many, many)
+            if row_told(pieces) is not None]
+
+
+def stretches(many):
+    """All stretches of a row of so many letters."""
+    return [(begin, behind) for begin in range(many) for behind in range(begin + 1, many + 1)]
+
+
+def lists_within(thing):
+    """All lists within a thing told, itself too."""
+    if not isinstance(thing, (list, tuple)):
+        return []
+    found = [thing] if isinstance(thing, list) else []
+    return found + [part for inner in thing for part in lists_within(inner)]
+
+
+def all_one_each(test, *told):
+    """Test that no two lists within the things told are one."""
+    lists = [part for thing in told for part in lists_within(thing)]
+    test.assertEqual(len({id(part) for part in lists}), len(lists))
+
+
 def raised(test, error, call, *handed):
     """Test that a call is refused with just this class of error, made with one text."""
     with test.assertRaises(error) as caught:

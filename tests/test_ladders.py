@@ -59,14 +59,6 @@ def nets_to_try(row):
     return [every, lean, sorted(set(lean + every[::5])), sorted(set(lean + every[-4:]))]
 
 
-def lists_within(thing):
-    """All lists within a thing told, itself too."""
-    if not isinstance(thing, (list, tuple)):
-        return []
-    found = [thing] if isinstance(thing, list) else []
-    return found + [part for inner in thing for part in lists_within(inner)]
-
-
 class LadderOf(unittest.TestCase):
     """[9.1]"""
 
@@ -266,7 +258,7 @@ class Told(unittest.TestCase):
         self.assertEqual(marks, [])
 
     def test_what_is_told_is_the_askers_own(self):
-        for told in lists_within(ladder_of("banana", [0, 1, 2])):
+        for told in by_hand.lists_within(ladder_of("banana", [0, 1, 2])):
             told.clear()
         self.assertEqual(ladder_of("banana", [0, 1, 2]), BANANA)
         for call, handed in ((hops, 3), (met_places, "an"), (met_words, 2)):
@@ -278,8 +270,8 @@ class Told(unittest.TestCase):
         marks = [0, 1, 2]
         told = [marks, ladder_of("banana", marks), ladder_of("banana", marks), ladder_of("aaaa", [0]), BANANA]
         told += [call(BANANA, handed) for call, handed in ((hops, 3), (met_places, "an"), (met_words, 2))] * 2
-        within = lists_within(told)
-        self.assertEqual(len({id(part) for part in lists_within(told[:5])}), len(lists_within(told[:5])))
+        within = by_hand.lists_within(told)
+        self.assertEqual(len({id(part) for part in by_hand.lists_within(told[:5])}), len(by_hand.lists_within(told[:5])))
         self.assertGreater(len(within), 40)
         for call, handed in ((hops, 3), (met_places, "an"), (met_words, 2)):
             self.assertIsNot(call(BANANA, handed), call(BANANA, handed))

@@ -8,26 +8,6 @@ from likemarks.tellings import ends, led, told_row
 A, B = ("own", "a"), ("own", "b")
 
 
-def by_the_words(telling):
-    """The row of a list of well-formed pieces, or None: letters come by and by, or never."""
-    goals = []
-    for piece in telling:
-        if piece[0] == "own":
-            goals.append(piece[1])
-        else:
-            goals += [piece[1] + k for k in range(piece[2])]
-    known = {place: goal for place, goal in enumerate(goals) if isinstance(goal, str)}
-    if any(not isinstance(goal, str) and not 0 <= goal < len(goals) for goal in goals):
-        return None
-    for _ in goals:
-        for place, goal in enumerate(goals):
-            if goal in known and not isinstance(goal, str):
-                known[place] = known[goal]
-    if len(known) < len(goals):
-        return None
-    return "".join(known[place] for place in range(len(goals)))
-
-
 class ToldRow(unittest.TestCase):
     """[4.1], [4.2]"""
 
@@ -55,7 +35,7 @@ class ToldRow(unittest.TestCase):
         pieces = [A, B] + [("like", place, many) for place in range(-1, 5) for many in (1, 2, 3)]
         for long in range(4):
             for telling in product(pieces, repeat=long):
-                row = by_the_words(telling)
+                row = by_hand.row_told(telling)
                 if row is None:
                     by_hand.raised(self, NoTelling, told_row, list(telling))
                 else:
@@ -176,7 +156,7 @@ class Ends(unittest.TestCase):
     def test_they_are_a_net(self):
         pieces = [A, B] + [("like", place, many) for place in range(5) for many in (1, 2, 3)]
         for telling in product(pieces, repeat=3):
-            row = by_the_words(telling)
+            row = by_hand.row_told(telling)
             if row is not None:
                 self.assertTrue(by_hand.net(row, ends(list(telling))), telling)
 
