@@ -1,0 +1,17 @@
+"""Some places of a row as one number, the bit of each place set: so many are met at once."""
+
+from likemarks.rows import places
+
+
+def bits_of(row, word):
+    """Tell all places that lie in some stretch of a word; 0 where it stands nowhere."""
+    stretch = (1 << len(word)) - 1
+    bits = 0
+    for place in places(row, word):
+        bits |= stretch << place
+    return bits
+
+
+def places_in(bits):
+    """List the places, rising."""
+    return [place for place in range(bits.bit_length()) if bits & (1 << place) != 0]
