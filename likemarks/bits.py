@@ -3,6 +3,22 @@
 from likemarks.rows import places
 
 
+def bits_at(marks):
+    """Tell these places as bits."""
+    bits = 0
+    for place in marks:
+        bits |= 1 << place
+    return bits
+
+
+def letter_bits(text):
+    """Tell by a dict at which places each letter of a text stands."""
+    found = {}
+    for place, letter in enumerate(text):
+        found[letter] = found.get(letter, 0) | (1 << place)
+    return found
+
+
 def bits_of(row, word):
     """Tell all places that lie in some stretch of a word; 0 where it stands nowhere."""
     stretch = (1 << len(word)) - 1

@@ -1,8 +1,9 @@
 """Marks of a row, and whether they are a net: each word stands somewhere over one."""
 
+from likemarks.bits import bits_at, letter_bits
 from likemarks.errors import NoNet
 from likemarks.kinds import is_number
-from likemarks.rows import places, words_of
+from likemarks.rows import places
 
 
 def next_marks(many, marks):
@@ -40,26 +41,46 @@ def over(row, marks, word):
     return least_over(row, next_marks(len(row), marks), word)
 
 
-def gaps_from(many, marks):
-    """List for each of so many places how many letters from there on hold no mark."""
-    return [mark - place for place, mark in enumerate(next_marks(many, marks))]
+def first_lacking(text, many, marks):
+    """Tell the first word, in the order of words, that stands at some of so many first places of a
+    text, but over a mark at none of these, or None.
 
-
-def lacking_among(words, gaps, many):
-    """Tell the least of these words of so many letters, at 0, 1, .., that stands over no mark, or None."""
-    met = {word: True for word, gap in zip(words, gaps) if gap < many}
-    return min([word for word in words if word not in met], default=None)
+    Words are led on letter by letter, with all their places as bits at once. One that
+    holds a mark at each of its places is left: so does any that begins with it.
+    """
+    spots = letter_bits(text)
+    marked = bits_at(marks)
+    inside = (1 << len(text)) - 1
+    held = 0
+    groups = [(1 << many) - 1]
+    size = 0
+    while groups:
+        # A stretch of size + 1 letters holds a mark where it begins at one of these.
+        held |= marked >> size
+        lacked = []
+        left = []
+        for bits in groups:
+            # Where the text ends, no letter leads a word on.
+            rest = bits & inside
+            while rest != 0:
+                place = rest.bit_length() - 1
+                alike = rest & (spots[text[place + size]] >> size)
+                rest -= alike
+                if alike & held == 0:
+                    lacked.append(text[place:place + size + 1])
+                elif alike & held != alike:
+                    left.append(alike)
+        if lacked:
+            return min(lacked)
+        groups = left
+        size += 1
+        inside >>= 1
+    return None
 
 
 def lacking(row, marks):
     """Tell the first word, in the order of words, that stands over no mark, or None."""
-    gaps = gaps_from(len(row), marks)
-    # A longer word than the widest gap stands over a mark wherever it stands.
-    for many in range(1, max(gaps, default=0) + 1):
-        word = lacking_among(words_of(row, many), gaps, many)
-        if word is not None:
-            return word
-    return None
+    return first_lacking(row, len(row), marks)
 
 
 def are_marks(row, thing):

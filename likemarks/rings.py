@@ -2,8 +2,8 @@
 
 from likemarks.errors import NoLetter, NoNet, NoPlace
 from likemarks.made import need_few
-from likemarks.nets import are_marks, gaps_from, lacking_among, need_net
-from likemarks.rows import places, words_of
+from likemarks.nets import are_marks, first_lacking, need_net
+from likemarks.rows import places
 
 
 def need_ring(row):
@@ -12,30 +12,19 @@ def need_ring(row):
         raise NoLetter("the row has no letters to be told round")
 
 
-def led_round(row, many):
-    """Tell the row with so many letters more that words of it reach round."""
-    return row + row[:many - 1]
-
-
 def ring_places(row, word):
     """List the places of the ring at which a word stands, rising."""
     need_ring(row)
     if len(word) > len(row):
         return []
-    return places(led_round(row, len(word)), word)
+    return places(row + row[:len(word) - 1], word)
 
 
 def first_unmet(row, marks):
     """Tell the first word, in the order of words, that stands in the ring over no mark, or None."""
-    if len(marks) == 0:
-        return min(row)
-    # Round, behind the last mark the first one comes again.
-    gaps = gaps_from(2 * len(row), marks + [len(row) + marks[0]])[:len(row)]
-    for many in range(1, max(gaps) + 1):
-        word = lacking_among(words_of(led_round(row, many), many), gaps, many)
-        if word is not None:
-            return word
-    return None
+    # Told twice, the row has all words of the ring at the places of its first time.
+    many = len(row)
+    return first_lacking(row + row, many, marks + [many + mark for mark in marks])
 
 
 def ring_lacking(row, marks):
